@@ -1,0 +1,1 @@
+"""Hats of some colours, guessed by those who see others' hats."""
