@@ -1,6 +1,36 @@
-"""What several tests of the project hand in."""
+"""What several tests of the project hand in and ask."""
 
+import itertools
+import unittest
 from fractions import Fraction
+
+from hatguess.errors import HatError
+
+VAST = [10 ** 30, 10 ** 30 + 57, 2 ** 200 - 1, 10 ** 5000]
+
+
+class RefusalCase(unittest.TestCase):
+    """A test of what is refused."""
+
+    def refused(self, error, ask, *told):
+        with self.assertRaises(HatError) as caught:
+            ask(*told)
+        self.assertIs(type(caught.exception), error)
+
+
+def all_hats(colours, players):
+    """All hats of so many colours, as a number's figures count up."""
+    return [list(hats) for hats in itertools.product(range(colours), repeat=players)]
+
+
+def strewn(colours, players, first=1):
+    """Hats that go all over the colours, without chance."""
+    hats = []
+    hat = first
+    for player in range(players):
+        hat = (hat * 6364136223846793005 + colours // 3 + player) % (colours << 64)
+        hats.append((hat >> 33) % colours)
+    return hats
 
 
 class Odd:
@@ -47,3 +77,8 @@ def no_hats(colours):
 def no_colours():
     """Things of many kinds, none of them a count of colours."""
     return [1, 0, -1, -2, -10 ** 30, -10 ** 5000] + no_numbers()
+
+
+def no_players(players):
+    """Things of many kinds, none of them a count of one of so many players."""
+    return [-1, -players, players, players + 1, 10 ** 30, -10 ** 30, 10 ** 5000, -10 ** 5000] + no_numbers()

@@ -33,8 +33,8 @@ def nodes(kind):
 class Language(unittest.TestCase):
     def test_the_package_is_there(self):
         names = [name for name, text in sources()]
-        for name in ["__init__.py", "errors.py", "hats.py", "line.py"]:
-            self.assertIn(name, names)
+        for name in ["__init__", "answers", "errors", "hats", "line", "once", "passing", "tables"]:
+            self.assertIn(name + ".py", names)
 
     def test_the_folder_holds_nothing_else(self):
         for path in PACKAGE.iterdir():
@@ -71,6 +71,12 @@ class Language(unittest.TestCase):
             if hasattr(builtins, node.id):
                 with self.subTest(name=name, line=node.lineno):
                     self.assertIn(node.id, ALLOWED)
+
+    def test_powers_are_literal(self):
+        for name, node in nodes(ast.BinOp):
+            if isinstance(node.op, ast.Pow):
+                with self.subTest(name=name, line=node.lineno):
+                    self.assertIsInstance(node.right, ast.Constant)
 
     def test_no_floats_and_no_names_with_an_underscore_ahead(self):
         for name, node in nodes((ast.Constant, ast.Div, ast.Name)):

@@ -3,17 +3,12 @@
 import itertools
 import unittest
 
-from hatguess.errors import BadColours, BadHats, HatError
+from hatguess.errors import BadColours, BadHats
 from hatguess.line import call, calls
-from tests.helper import no_colours, no_hats
+from tests.helper import VAST, RefusalCase, all_hats, no_colours, no_hats, strewn
 
 # Counts of colours, each with the greatest count of players all of whose hats are tried.
 SMALL = [(2, 8), (3, 6), (4, 4), (5, 4), (6, 3), (7, 3)]
-VAST = [10 ** 30, 10 ** 30 + 57, 2 ** 200 - 1, 10 ** 5000]
-
-
-def all_hats(colours, players):
-    return [list(hats) for hats in itertools.product(range(colours), repeat=players)]
 
 
 def small_lines():
@@ -21,16 +16,6 @@ def small_lines():
         for players in range(most + 1):
             for hats in all_hats(colours, players):
                 yield colours, hats
-
-
-def strewn(colours, players):
-    """Hats that go all over the colours, without chance."""
-    hats = []
-    hat = 1
-    for player in range(players):
-        hat = (hat * 6364136223846793005 + colours // 3 + player) % colours
-        hats.append(hat)
-    return hats
 
 
 def vast_lines():
@@ -195,12 +180,7 @@ class Kept(unittest.TestCase):
                 self.assertEqual(wrong, was)
 
 
-class Refusals(unittest.TestCase):
-    def refused(self, error, ask, *told):
-        with self.assertRaises(HatError) as caught:
-            ask(*told)
-        self.assertIs(type(caught.exception), error)
-
+class Refusals(RefusalCase):
     def test_no_colours(self):
         for number, wrong in enumerate(no_colours()):
             with self.subTest(number=number):
